@@ -1,0 +1,1 @@
+"""A tale told in rules: ruletales.tale.answers is the function to call."""
